@@ -1,4 +1,4 @@
-"""Charts, read from their texts."""
+"""Charts and their texts."""
 
 from knotloom.colours import are_colours
 
@@ -32,6 +32,15 @@ def split_rows(text):
         else:
             row.append(byte)
     return rows
+
+
+def write_rows(rows):
+    """The text of the chart that has these rows."""
+    text = []
+    for row in rows:
+        text.extend(row)
+        text.append(ROW_END)
+    return text
 
 
 def is_size(width, height):

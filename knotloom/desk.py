@@ -6,6 +6,10 @@ BEGIN = 0
 ROW = 1
 UNPICK = 2
 NOW = 3
+TIED = 4
+WRONG = 5
+WOOL = 6
+SAID = 7
 
 
 class UnknownCall(ValueError):
@@ -52,6 +56,14 @@ def answer_next(loom, reader):
         return loom.unpick(reader.take_number())
     if call == NOW:
         return loom.now()
+    if call == TIED:
+        return loom.tied()
+    if call == WRONG:
+        return loom.wrong(reader.take_number())
+    if call == WOOL:
+        return loom.wool()
+    if call == SAID:
+        return loom.said(reader.take_number())
     raise UnknownCall(f"no call has the number {call}")
 
 

@@ -1,8 +1,10 @@
 """The loom and the calls on it; each call answers a list of numbers, a refusal is one below 0, alone."""
 
-from knotloom.chart import read_chart
+from knotloom.calling import least_call
+from knotloom.chart import read_chart, write_rows
+from knotloom.colours import as_signs, colour_number, count_colours
 from knotloom.refusals import NO_CHART, NO_ROW, NO_SUCH_THING, NOT_BEGUN, OUT_OF_RANGE, ROW_IS_LEFT, TOO_LONG
-from knotloom.tying import Tyings, count_wrong, tie_row
+from knotloom.tying import Tyings, count_wrong, find_wrong, tie_row, wrong_columns
 
 MOST_BYTES = 66048
 MOST_KNOTTERS = 8
@@ -27,6 +29,8 @@ class Loom:
         self.shares = []
         self.done = []
         self.asked = 0
+        # By part: one list of calls may ask for the same part's call some hundred times.
+        self.least_calls = {}
 
     def begin(self, text, shares):
         """Begin, anew if need be, with a chart's text and the knotters' shares."""
@@ -61,7 +65,7 @@ class Loom:
         if knots is None:
             return [ROW_IS_LEFT]
         self.done.append(knots)
-        return [count_wrong(knots, wanted), tyings.asked]
+        return [len(wrong_columns(knots, wanted)), tyings.asked]
 
     def unpick(self, k):
         """Undo the last k rows."""
@@ -76,6 +80,46 @@ class Loom:
         """The loom's sizes, its rows done, their wrong knots, how often tying was asked for."""
         if self.chart is None:
             return [NOT_BEGUN]
-        wrong_knots = sum([count_wrong(knots, row) for knots, row in zip(self.done, self.chart)])
         sizes = [len(self.chart[0]), len(self.chart), len(self.shares)]
-        return [0] + sizes + [len(self.done), wrong_knots, self.asked % ASKED_MODULO]
+        return [0] + sizes + [len(self.done), count_wrong(self.done, self.chart), self.asked % ASKED_MODULO]
+
+    def tied(self):
+        """The text of the chart of the rows done, behind how many bytes it has."""
+        if self.chart is None:
+            return [NOT_BEGUN]
+        if not self.done:
+            return [NO_ROW]
+        text = write_rows(self.done)
+        return [len(text)] + text
+
+    def wrong(self, k):
+        """The column and the row of the k-th wrong knot, and the number of the colour that is tied."""
+        if self.chart is None:
+            return [NOT_BEGUN]
+        place = find_wrong(self.done, self.chart, k)
+        if place is None:
+            return [NO_SUCH_THING]
+        x = place[0]
+        y = place[1]
+        return [0, x, y, colour_number(self.done[y][x])]
+
+    def wool(self):
+        """Of each colour how many knots are tied."""
+        if self.chart is None:
+            return [NOT_BEGUN]
+        return [0] + count_colours(self.done)
+
+    def said(self, j):
+        """The least call of knotter j's part of the next row, behind how many bytes it has."""
+        if self.chart is None:
+            return [NOT_BEGUN]
+        if j >= len(self.shares):
+            return [NO_SUCH_THING]
+        if len(self.done) == len(self.chart):
+            return [NO_ROW]
+        start = sum(self.shares[:j])
+        part = as_signs(self.chart[len(self.done)][start:start + self.shares[j]])
+        if part not in self.least_calls:
+            self.least_calls[part] = least_call(part)
+        call = self.least_calls[part]
+        return [len(call)] + [ord(sign) for sign in call]

@@ -44,6 +44,22 @@ def tie_row(row, shares, tries, tyings):
     return knots
 
 
-def count_wrong(knots, row):
-    """How many of a done row's knots have another colour than the chart's row."""
-    return sum([1 for knot, colour in zip(knots, row) if knot != colour])
+def wrong_columns(knots, row):
+    """The columns, from the left, in which a done row's knots have another colour than the chart's row."""
+    return [x for x, knot in enumerate(knots) if knot != row[x]]
+
+
+def count_wrong(done, chart):
+    """How many wrong knots the rows done have."""
+    return sum([len(wrong_columns(knots, row)) for knots, row in zip(done, chart)])
+
+
+def find_wrong(done, chart, k):
+    """The column and the row of the k-th wrong knot of the rows done; None if there are not so many."""
+    before = 0
+    for y, knots in enumerate(done):
+        columns = wrong_columns(knots, chart[y])
+        if k < before + len(columns):
+            return (columns[k - before], y)
+        before += len(columns)
+    return None

@@ -2,9 +2,7 @@
 
 from knotloom.chart import read_chart
 from knotloom.loom import Loom
-from tests.helper import GREATEST, NOW, LoomCase, as_bytes, begin, row, unpick
-
-COLOURS = [ord(sign) for sign in "abcdefghijklmnopqrstuvwxyzABCDEFGHIJKLMNOPQRSTUVWXYZ0123456789"]
+from tests.helper import COLOURS, GREATEST, NOW, LoomCase, as_bytes, begin, row, unpick
 
 
 def text_of(width, height):
@@ -57,7 +55,7 @@ class Charts(LoomCase):
     def test_every_byte(self):
         for byte in range(256):
             with self.subTest(byte):
-                self.check_last([begin([byte, 10], 1)], [0] if byte in COLOURS else [-6])
+                self.check_last([begin([byte, 10], 1)], [0] if chr(byte) in COLOURS else [-6])
 
     def test_a_byte_that_is_no_colour_anywhere(self):
         for place in range(9):
